@@ -1,0 +1,1 @@
+"""Optimal pebbling and cover pebbling on small graphs."""

@@ -1,0 +1,91 @@
+"""Questions about pebbles on a graph of at most five vertices."""
+
+OUTSIDE_LIMITS = -22
+
+MOST_VERTICES = 5
+MOST_PEBBLES = 12
+
+
+def is_solvable(vertex_count, edges, pebbles):
+    """Tell whether every vertex can be reached, then for each vertex whether it can."""
+    if not graph_fits(vertex_count, edges):
+        return [OUTSIDE_LIMITS]
+    if not configuration_fits(vertex_count, pebbles):
+        return [OUTSIDE_LIMITS]
+    marks = reachable_marks(edge_pairs(edges), pebbles)
+    return [1 if all(marks) else 0] + marks
+
+
+def graph_fits(vertex_count, edges):
+    """Tell whether the number of vertices and the flat list of edges are within their limits."""
+    if vertex_count < 1 or vertex_count > MOST_VERTICES:
+        return False
+    if len(edges) % 2 != 0:
+        return False
+    return edges_fit(vertex_count, edge_pairs(edges))
+
+
+def edge_pairs(edges):
+    """Make of the flat list, two numbers for each edge, a list of pairs."""
+    return [(edges[at], edges[at + 1]) for at in range(0, len(edges), 2)]
+
+
+def edges_fit(vertex_count, pairs):
+    """Tell whether the edges join vertices that exist, lower one first, in strictly increasing order."""
+    # No edge is (0, 0), and every edge stands behind it.
+    before = (0, 0)
+    for pair in pairs:
+        u, v = pair
+        if u >= v or v >= vertex_count or pair <= before:
+            return False
+        before = pair
+    return True
+
+
+def configuration_fits(vertex_count, pebbles):
+    """Tell whether the list has a number for each vertex and not too many pebbles."""
+    return len(pebbles) == vertex_count and sum(pebbles) <= MOST_PEBBLES
+
+
+def reachable_marks(pairs, pebbles):
+    """Mark each vertex with 1 if it is reachable from the configuration, else with 0."""
+    marks = [0] * len(pebbles)
+    for configuration in configurations_from(pairs, pebbles):
+        for vertex, stones_here in enumerate(configuration):
+            if stones_here > 0:
+                marks[vertex] = 1
+    return marks
+
+
+def configurations_from(pairs, pebbles):
+    """List every configuration that some sequence of moves leads to, each once, the given one too."""
+    first = tuple(pebbles)
+    seen = {first: True}
+    waiting = [first]
+    # Each move takes a pebble off the graph, so the search comes to an end.
+    while len(waiting) > 0:
+        configuration = waiting.pop()
+        for following in configurations_after_a_move(pairs, configuration):
+            if following not in seen:
+                seen[following] = True
+                waiting.append(following)
+    return list(seen)
+
+
+def configurations_after_a_move(pairs, configuration):
+    """List the configurations that a single move along some edge leads to."""
+    results = []
+    for u, v in pairs:
+        if configuration[u] >= 2:
+            results.append(moved(configuration, u, v))
+        if configuration[v] >= 2:
+            results.append(moved(configuration, v, u))
+    return results
+
+
+def moved(configuration, source, target):
+    """Give the configuration after the move from source to target."""
+    changed = list(configuration)
+    changed[source] -= 2
+    changed[target] += 1
+    return tuple(changed)
