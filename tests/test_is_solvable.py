@@ -158,13 +158,13 @@ class Refusals(unittest.TestCase):
 
     def test_a_sum_above_twelve(self):
         self.refused(1, [], [13])
-        self.refused(1, [], [LARGEST])
         self.refused(3, graphs.PATH_3, [13, 0, 0])
         self.refused(3, graphs.PATH_3, [0, 0, 13])
         self.refused(3, graphs.PATH_3, [4, 4, 5])
         self.refused(3, graphs.PATH_3, [12, 0, 1])
-        self.refused(3, graphs.PATH_3, [0, LARGEST, 0])
         self.refused(5, graphs.COMPLETE_5, [3, 3, 3, 3, 1])
+        self.refused(1, [], [LARGEST])
+        self.refused(3, graphs.PATH_3, [0, LARGEST, 0])
         self.refused(5, graphs.COMPLETE_5, [LARGEST] * 5)
 
     def test_a_sum_above_twelve_and_a_wrong_length(self):
@@ -199,7 +199,7 @@ class Lists(unittest.TestCase):
         (0, graphs.PATH_3, [2, 0, 0]),
         (3, [1, 0, 0, 1], [2, 0, 0]),
         (3, graphs.PATH_3, [2, 0]),
-        (3, graphs.PATH_3, [LARGEST] * 3),
+        (3, graphs.PATH_3, [13, 0, 0]),
     ]
 
     def test_what_is_handed_in_is_never_changed(self):
