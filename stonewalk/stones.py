@@ -16,6 +16,20 @@ def is_solvable(vertex_count, edges, pebbles):
     return [1 if all(marks) else 0] + marks
 
 
+def optimal_configuration(vertex_count, edges):
+    """Give the number of pebbles of the optimal configuration, then the configuration itself."""
+    if not graph_fits(vertex_count, edges):
+        return [OUTSIDE_LIMITS]
+    pairs = edge_pairs(edges)
+    count = 0
+    solvable = []
+    # One pebble on every vertex is solvable, so count goes no further than vertex_count.
+    while len(solvable) == 0:
+        count += 1
+        solvable = solvable_configurations(vertex_count, pairs, count)
+    return [count] + solvable[0]
+
+
 def graph_fits(vertex_count, edges):
     """Tell whether the number of vertices and the flat list of edges are within their limits."""
     if vertex_count < 1 or vertex_count > MOST_VERTICES:
@@ -47,12 +61,35 @@ def configuration_fits(vertex_count, pebbles):
     return len(pebbles) == vertex_count and sum(pebbles) <= MOST_PEBBLES
 
 
+def solvable_configurations(vertex_count, pairs, count):
+    """List the solvable configurations with count pebbles, in lexicographic order."""
+    return [pebbles for pebbles in configurations_with(vertex_count, count) if all(reachable_marks(pairs, pebbles))]
+
+
+def configurations_with(vertex_count, count):
+    """List the configurations with count pebbles, in lexicographic order."""
+    beginnings = [[]]
+    for vertex in range(vertex_count - 1):
+        beginnings = longer_beginnings(beginnings, count)
+    # What the other vertices leave over lies on the last one.
+    return [beginning + [count - sum(beginning)] for beginning in beginnings]
+
+
+def longer_beginnings(beginnings, count):
+    """Lengthen each beginning of a configuration by one vertex, in every way, in lexicographic order."""
+    longer = []
+    for beginning in beginnings:
+        for pebbles_here in range(count - sum(beginning) + 1):
+            longer.append(beginning + [pebbles_here])
+    return longer
+
+
 def reachable_marks(pairs, pebbles):
     """Mark each vertex with 1 if it is reachable from the configuration, else with 0."""
     marks = [0] * len(pebbles)
     for configuration in configurations_from(pairs, pebbles):
-        for vertex, stones_here in enumerate(configuration):
-            if stones_here > 0:
+        for vertex, pebbles_here in enumerate(configuration):
+            if pebbles_here > 0:
                 marks[vertex] = 1
     return marks
 

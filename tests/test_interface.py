@@ -2,6 +2,7 @@ import ast
 import contextlib
 import inspect
 import io
+import itertools
 import pathlib
 import unittest
 
@@ -10,18 +11,101 @@ from tests import graphs
 
 PACKAGE = pathlib.Path(stones.__file__).parent
 
+# For each function: the names of its arguments, and calls of it, good and wrong ones.
+FUNCTIONS = {
+    stones.is_solvable: (
+        ["vertex_count", "edges", "pebbles"],
+        [
+            (1, [], [1]),
+            (3, graphs.PATH_3, [2, 0, 0]),
+            (5, graphs.COMPLETE_5, [3, 3, 3, 3, 0]),
+            (5, graphs.PATH_5, [12, 0, 0, 0, 0]),
+            (0, graphs.PATH_3, [2, 0, 0]),
+            (3, [1, 0, 0, 1], [2, 0, 0]),
+            (3, graphs.PATH_3, [2, 0]),
+            (3, graphs.PATH_3, [13, 0, 0]),
+        ],
+    ),
+    stones.optimal_configuration: (
+        ["vertex_count", "edges"],
+        [
+            (1, []),
+            (3, graphs.PATH_3),
+            (5, graphs.COMPLETE_5),
+            (5, [0, 4, 1, 3]),
+            (0, graphs.PATH_3),
+            (3, [1, 0, 0, 1]),
+        ],
+    ),
+}
 
-class Interface(unittest.TestCase):
+CALLS = [(function, call) for function, (names, calls) in FUNCTIONS.items() for call in calls]
+
+
+class Calls(unittest.TestCase):
     def test_names_of_the_arguments(self):
-        names = {
-            "is_solvable": ["vertex_count", "edges", "pebbles"],
-        }
-        for function, arguments in names.items():
-            with self.subTest(function):
-                parameters = inspect.signature(getattr(stones, function)).parameters
-                self.assertEqual(list(parameters), arguments)
+        for function, (names, calls) in FUNCTIONS.items():
+            with self.subTest(function.__name__):
+                parameters = inspect.signature(function).parameters
+                self.assertEqual(list(parameters), names)
                 self.assertEqual({one.default for one in parameters.values()}, {inspect.Parameter.empty})
 
+    def test_the_answer_is_a_list_of_whole_numbers(self):
+        for function, call in CALLS:
+            with self.subTest(function.__name__, call=call):
+                answer = function(*call)
+                self.assertIs(type(answer), list)
+                self.assertEqual({type(number) for number in answer}, {int})
+
+    def test_an_error_stands_alone_and_nothing_else_is_below_0(self):
+        for function, call in CALLS:
+            with self.subTest(function.__name__, call=call):
+                answer = function(*call)
+                self.assertTrue(answer == [-22] or min(answer) >= 0)
+
+    def test_what_is_handed_in_is_never_changed(self):
+        for function, call in CALLS:
+            with self.subTest(function.__name__, call=call):
+                guarded = [graphs.Untouched(one) if isinstance(one, list) else one for one in call]
+                function(*guarded)
+                self.assertEqual(guarded, list(call))
+
+    def test_nothing_is_kept_between_calls(self):
+        before = [function(*call) for function, call in CALLS]
+        for function, call in CALLS:
+            answer = function(*call)
+            answer[0] = 99
+            answer.append(99)
+        after = [function(*call) for function, call in reversed(CALLS)]
+        self.assertEqual(before, after[::-1])
+
+    def test_nothing_is_printed(self):
+        printed = io.StringIO()
+        with contextlib.redirect_stdout(printed), contextlib.redirect_stderr(printed):
+            for function, call in CALLS:
+                function(*call)
+        self.assertEqual(printed.getvalue(), "")
+
+
+class ShortEdges(unittest.TestCase):
+    """Every list of up to four numbers is taken if it is a graph, and refused if not."""
+
+    def check(self, taken):
+        for vertex_count in range(1, 6):
+            good = list(graphs.all_graphs(vertex_count))
+            for length in range(5):
+                for ends in itertools.product(range(vertex_count + 1), repeat=length):
+                    edges = list(ends)
+                    self.assertEqual(taken(vertex_count, edges), edges in good, (vertex_count, edges))
+
+    def test_is_solvable(self):
+        self.check(lambda n, edges: stones.is_solvable(n, edges, [0] * n) != [-22])
+
+    def test_optimal_configuration(self):
+        self.check(lambda n, edges: stones.optimal_configuration(n, edges) != [-22])
+
+
+class Package(unittest.TestCase):
     def test_nothing_from_outside_is_imported_read_or_printed(self):
         for path in PACKAGE.glob("*.py"):
             with self.subTest(path.name):
@@ -31,13 +115,6 @@ class Interface(unittest.TestCase):
                         self.assertTrue((node.module or "").startswith("stonewalk."))
                     if isinstance(node, ast.Name):
                         self.assertNotIn(node.id, ("print", "open", "input", "__import__", "exec", "eval"))
-
-    def test_nothing_is_printed(self):
-        printed = io.StringIO()
-        with contextlib.redirect_stdout(printed), contextlib.redirect_stderr(printed):
-            stones.is_solvable(3, graphs.PATH_3, [2, 0, 0])
-            stones.is_solvable(0, [], [])
-        self.assertEqual(printed.getvalue(), "")
 
 
 if __name__ == "__main__":
