@@ -4,6 +4,7 @@ OUTSIDE_LIMITS = -22
 
 MOST_VERTICES = 5
 MOST_PEBBLES = 12
+MOST_PEBBLES_COUNTED = 6
 
 
 def is_solvable(vertex_count, edges, pebbles):
@@ -28,6 +29,15 @@ def optimal_configuration(vertex_count, edges):
         count += 1
         solvable = solvable_configurations(vertex_count, pairs, count)
     return [count] + solvable[0]
+
+
+def count_solvable(vertex_count, pebbles, edges):
+    """Give the number of solvable configurations with that many pebbles."""
+    if not graph_fits(vertex_count, edges):
+        return [OUTSIDE_LIMITS]
+    if pebbles > MOST_PEBBLES_COUNTED:
+        return [OUTSIDE_LIMITS]
+    return [len(solvable_configurations(vertex_count, edge_pairs(edges), pebbles))]
 
 
 def graph_fits(vertex_count, edges):

@@ -37,6 +37,18 @@ FUNCTIONS = {
             (3, [1, 0, 0, 1]),
         ],
     ),
+    stones.count_solvable: (
+        ["vertex_count", "pebbles", "edges"],
+        [
+            (1, 0, []),
+            (3, 2, graphs.PATH_3),
+            (5, 6, graphs.COMPLETE_5),
+            (5, 6, [0, 4, 1, 3]),
+            (0, 2, graphs.PATH_3),
+            (3, 2, [1, 0, 0, 1]),
+            (3, 7, graphs.PATH_3),
+        ],
+    ),
 }
 
 CALLS = [(function, call) for function, (names, calls) in FUNCTIONS.items() for call in calls]
@@ -103,6 +115,9 @@ class ShortEdges(unittest.TestCase):
 
     def test_optimal_configuration(self):
         self.check(lambda n, edges: stones.optimal_configuration(n, edges) != [-22])
+
+    def test_count_solvable(self):
+        self.check(lambda n, edges: stones.count_solvable(n, 0, edges) != [-22])
 
 
 class Package(unittest.TestCase):
