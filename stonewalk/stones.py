@@ -40,6 +40,18 @@ def count_solvable(vertex_count, pebbles, edges):
     return [len(solvable_configurations(vertex_count, edge_pairs(edges), pebbles))]
 
 
+def can_cover(vertex_count, edges, pebbles):
+    """Tell whether some sequence of moves puts a pebble on every vertex at the same time."""
+    if not graph_fits(vertex_count, edges):
+        return [OUTSIDE_LIMITS]
+    if not configuration_fits(vertex_count, pebbles):
+        return [OUTSIDE_LIMITS]
+    for configuration in configurations_from(edge_pairs(edges), pebbles):
+        if all(configuration):
+            return [1]
+    return [0]
+
+
 def graph_fits(vertex_count, edges):
     """Tell whether the number of vertices and the flat list of edges are within their limits."""
     if vertex_count < 1 or vertex_count > MOST_VERTICES:

@@ -52,6 +52,32 @@ WRONG_GRAPHS = [
     ("everything the largest", LARGEST, [LARGEST] * 22),
 ]
 
+# Lists of pebbles outside the limits, on graphs within them: vertex_count, edges, pebbles.
+WRONG_PEBBLES = [
+    (1, [], []),
+    (1, [], [1, 0]),
+    (1, [], [13]),
+    (1, [], [LARGEST]),
+    (3, PATH_3, []),
+    (3, PATH_3, [7]),
+    (3, PATH_3, [7, 0]),
+    (3, PATH_3, [7, 0, 0, 0]),
+    (3, PATH_3, [1] * 7),
+    (3, PATH_3, [13, 0, 0]),
+    (3, PATH_3, [0, 0, 13]),
+    (3, PATH_3, [4, 4, 5]),
+    (3, PATH_3, [12, 0, 1]),
+    (3, PATH_3, [0, LARGEST, 0]),
+    (5, COMPLETE_5, [3, 3, 3, 3, 1]),
+    (5, COMPLETE_5, [LARGEST] * 5),
+    (5, [], [3, 3, 3, 3]),
+    (5, [], [2, 2, 2, 2, 2, 2]),
+    # The length and the sum are wrong.
+    (3, PATH_3, [13]),
+    (3, PATH_3, [LARGEST] * 7),
+    (5, COMPLETE_5, [13, 0, 0, 0]),
+]
+
 
 class Untouched(list):
     """A list that says so as soon as somebody changes it."""
@@ -61,6 +87,15 @@ class Untouched(list):
 
     __setitem__ = __delitem__ = __iadd__ = __imul__ = refuse
     append = extend = insert = pop = remove = clear = sort = reverse = refuse
+
+
+class Unread(list):
+    """A list that says so as soon as somebody looks into it."""
+
+    def refuse(self, *ignored):
+        raise AssertionError("pebbles are looked at though the graph is wrong")
+
+    __len__ = __iter__ = __getitem__ = refuse
 
 
 def possible_pairs(vertex_count):
@@ -112,25 +147,38 @@ def parts(vertex_count, edges):
 
 
 class SlowAnswers:
-    """Reachable vertices of one graph, straight from the terms: a vertex
-    is reachable if it bears a pebble, or if it is reachable after a move."""
+    """Answers about one graph, straight from the terms. A vertex is reachable
+    if it bears a pebble, or if it is reachable after a move; a configuration
+    can be covered if it is, or if it can be after a move."""
 
     def __init__(self, vertex_count, edges):
         self.beside = neighbours(vertex_count, edges)
-        self.known = {}
+        self.known_marks = {}
+        self.known_covers = {}
+
+    def after_a_move(self, pebbles):
+        for source, held in enumerate(pebbles):
+            for target in self.beside[source] if held >= 2 else []:
+                after = list(pebbles)
+                after[source] -= 2
+                after[target] += 1
+                yield after
 
     def reachable(self, pebbles):
         pebbles = tuple(pebbles)
-        if pebbles not in self.known:
+        if pebbles not in self.known_marks:
             marks = [min(held, 1) for held in pebbles]
-            for source, held in enumerate(pebbles):
-                for target in self.beside[source] if held >= 2 else []:
-                    after = list(pebbles)
-                    after[source] -= 2
-                    after[target] += 1
-                    marks = [max(pair) for pair in zip(marks, self.reachable(after))]
-            self.known[pebbles] = marks
-        return self.known[pebbles]
+            for after in self.after_a_move(pebbles):
+                marks = [max(pair) for pair in zip(marks, self.reachable(after))]
+            self.known_marks[pebbles] = marks
+        return self.known_marks[pebbles]
 
     def solvable(self, pebbles):
         return all(self.reachable(pebbles))
+
+    def coverable(self, pebbles):
+        pebbles = tuple(pebbles)
+        if pebbles not in self.known_covers:
+            covered = min(pebbles) >= 1
+            self.known_covers[pebbles] = covered or any(map(self.coverable, self.after_a_move(pebbles)))
+        return self.known_covers[pebbles]

@@ -49,6 +49,19 @@ FUNCTIONS = {
             (3, 7, graphs.PATH_3),
         ],
     ),
+    stones.can_cover: (
+        ["vertex_count", "edges", "pebbles"],
+        [
+            (1, [], [0]),
+            (3, graphs.PATH_3, [7, 0, 0]),
+            (5, graphs.COMPLETE_5, [3, 3, 3, 3, 0]),
+            (5, graphs.PATH_5, [12, 0, 0, 0, 0]),
+            (0, graphs.PATH_3, [7, 0, 0]),
+            (3, [1, 0, 0, 1], [7, 0, 0]),
+            (3, graphs.PATH_3, [7, 0]),
+            (3, graphs.PATH_3, [13, 0, 0]),
+        ],
+    ),
 }
 
 CALLS = [(function, call) for function, (names, calls) in FUNCTIONS.items() for call in calls]
@@ -118,6 +131,9 @@ class ShortEdges(unittest.TestCase):
 
     def test_count_solvable(self):
         self.check(lambda n, edges: stones.count_solvable(n, 0, edges) != [-22])
+
+    def test_can_cover(self):
+        self.check(lambda n, edges: stones.can_cover(n, edges, [0] * n) != [-22])
 
 
 class Package(unittest.TestCase):

@@ -2,7 +2,6 @@ import unittest
 
 from stonewalk.stones import is_solvable
 from tests import graphs
-from tests.graphs import LARGEST
 
 
 class Answers(unittest.TestCase):
@@ -124,60 +123,6 @@ class Answers(unittest.TestCase):
             for pebbles in graphs.all_configurations(5, count):
                 marks = [1 if max(pebbles) >= 2 else held for held in pebbles]
                 self.check(5, graphs.COMPLETE_5, pebbles, [min(marks)] + marks)
-
-
-class Refusals(unittest.TestCase):
-    def refused(self, vertex_count, edges, pebbles):
-        self.assertEqual(is_solvable(vertex_count, edges, pebbles), [-22])
-
-    def test_wrong_graphs(self):
-        for name, vertex_count, edges in graphs.WRONG_GRAPHS:
-            for pebbles in ([1] * min(vertex_count, 7), [], [0] * 7):
-                with self.subTest(name, pebbles=pebbles):
-                    self.refused(vertex_count, edges, pebbles)
-
-    def test_pebbles_of_the_wrong_length(self):
-        for vertex_count in range(1, 6):
-            for length in range(8):
-                with self.subTest(vertex_count=vertex_count, length=length):
-                    answer = is_solvable(vertex_count, [], [1] * length)
-                    if length == vertex_count:
-                        self.assertEqual(answer, [1] * (vertex_count + 1))
-                    else:
-                        self.assertEqual(answer, [-22])
-
-    def test_a_sum_above_twelve(self):
-        self.refused(1, [], [13])
-        self.refused(3, graphs.PATH_3, [13, 0, 0])
-        self.refused(3, graphs.PATH_3, [0, 0, 13])
-        self.refused(3, graphs.PATH_3, [4, 4, 5])
-        self.refused(3, graphs.PATH_3, [12, 0, 1])
-        self.refused(5, graphs.COMPLETE_5, [3, 3, 3, 3, 1])
-        self.refused(1, [], [LARGEST])
-        self.refused(3, graphs.PATH_3, [0, LARGEST, 0])
-        self.refused(5, graphs.COMPLETE_5, [LARGEST] * 5)
-
-    def test_a_sum_above_twelve_and_a_wrong_length(self):
-        self.refused(3, graphs.PATH_3, [13])
-        self.refused(3, graphs.PATH_3, [LARGEST] * 7)
-
-    def test_a_wrong_graph_comes_ahead_of_wrong_pebbles(self):
-        # The codes are alike; still the first error alone is told.
-        for name, vertex_count, edges in graphs.WRONG_GRAPHS:
-            for pebbles in ([], [13], [LARGEST] * 7):
-                with self.subTest(name, pebbles=pebbles):
-                    self.refused(vertex_count, edges, pebbles)
-
-    def test_the_graph_is_checked_ahead_of_the_pebbles(self):
-        class Unread(list):
-            def refuse(self, *ignored):
-                raise AssertionError("pebbles are looked at though the graph is wrong")
-
-            __len__ = __iter__ = __getitem__ = refuse
-
-        for name, vertex_count, edges in graphs.WRONG_GRAPHS:
-            with self.subTest(name):
-                self.refused(vertex_count, edges, Unread())
 
 
 if __name__ == "__main__":
