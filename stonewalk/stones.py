@@ -1,6 +1,8 @@
 """Questions about pebbles on a graph of at most five vertices."""
 
+NO_SUCH_VERTEX = -2
 OUTSIDE_LIMITS = -22
+NOT_CONNECTED = -33
 
 MOST_VERTICES = 5
 MOST_PEBBLES = 12
@@ -50,6 +52,18 @@ def can_cover(vertex_count, edges, pebbles):
         if all(configuration):
             return [1]
     return [0]
+
+
+def cover_from(vertex_count, vertex, edges):
+    """Give the cover number from the vertex."""
+    if not graph_fits(vertex_count, edges):
+        return [OUTSIDE_LIMITS]
+    pairs = edge_pairs(edges)
+    if not is_connected(vertex_count, pairs):
+        return [NOT_CONNECTED]
+    if vertex >= vertex_count:
+        return [NO_SUCH_VERTEX]
+    return [cover_number_from(vertex, pairs)]
 
 
 def graph_fits(vertex_count, edges):
@@ -148,3 +162,39 @@ def moved(configuration, source, target):
     changed[source] -= 2
     changed[target] += 1
     return tuple(changed)
+
+
+def is_connected(vertex_count, pairs):
+    """Tell whether a path leads from the first vertex to every other."""
+    return len(distances_from(0, pairs)) == vertex_count
+
+
+def cover_number_from(vertex, pairs):
+    """Add up 2 to the power of the distance from the vertex, over all vertices of a connected graph."""
+    return sum([1 << distance for distance in distances_from(vertex, pairs).values()])
+
+
+def distances_from(vertex, pairs):
+    """Give the distance of each vertex that a path leads to from the given one."""
+    distances = {vertex: 0}
+    farthest = [vertex]
+    while len(farthest) > 0:
+        farther = []
+        for here in farthest:
+            for there in vertices_beside(here, pairs):
+                if there not in distances:
+                    distances[there] = distances[here] + 1
+                    farther.append(there)
+        farthest = farther
+    return distances
+
+
+def vertices_beside(vertex, pairs):
+    """List the vertices that an edge joins to the given one."""
+    beside = []
+    for u, v in pairs:
+        if u == vertex:
+            beside.append(v)
+        if v == vertex:
+            beside.append(u)
+    return beside

@@ -146,6 +146,19 @@ def parts(vertex_count, edges):
     return found
 
 
+def slow_distances(vertex_count, edges, vertex):
+    """The distance from the vertex to each one that a path leads to, found by trying every path."""
+    joined = set(zip(edges[::2], edges[1::2]))
+    others = [other for other in range(vertex_count) if other != vertex]
+    found = {}
+    for length in range(vertex_count):
+        for rest in itertools.permutations(others, length):
+            path = (vertex,) + rest
+            if all((min(step), max(step)) in joined for step in zip(path, path[1:])):
+                found.setdefault(path[-1], length)
+    return found
+
+
 class SlowAnswers:
     """Answers about one graph, straight from the terms. A vertex is reachable
     if it bears a pebble, or if it is reachable after a move; a configuration

@@ -62,7 +62,21 @@ FUNCTIONS = {
             (3, graphs.PATH_3, [13, 0, 0]),
         ],
     ),
+    stones.cover_from: (
+        ["vertex_count", "vertex", "edges"],
+        [
+            (1, 0, []),
+            (3, 1, graphs.PATH_3),
+            (5, 4, graphs.COMPLETE_5),
+            (0, 0, graphs.PATH_3),
+            (3, 0, [1, 0, 0, 1]),
+            (5, 0, [0, 4, 1, 3]),
+            (3, 3, graphs.PATH_3),
+        ],
+    ),
 }
+
+ERRORS = [[-2], [-22], [-33]]
 
 CALLS = [(function, call) for function, (names, calls) in FUNCTIONS.items() for call in calls]
 
@@ -86,7 +100,7 @@ class Calls(unittest.TestCase):
         for function, call in CALLS:
             with self.subTest(function.__name__, call=call):
                 answer = function(*call)
-                self.assertTrue(answer == [-22] or min(answer) >= 0)
+                self.assertTrue(answer in ERRORS or min(answer) >= 0)
 
     def test_what_is_handed_in_is_never_changed(self):
         for function, call in CALLS:
@@ -134,6 +148,9 @@ class ShortEdges(unittest.TestCase):
 
     def test_can_cover(self):
         self.check(lambda n, edges: stones.can_cover(n, edges, [0] * n) != [-22])
+
+    def test_cover_from(self):
+        self.check(lambda n, edges: stones.cover_from(n, 0, edges) != [-22])
 
 
 class Package(unittest.TestCase):
