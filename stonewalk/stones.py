@@ -66,6 +66,16 @@ def cover_from(vertex_count, vertex, edges):
     return [cover_number_from(vertex, pairs)]
 
 
+def cover_number(vertex_count, edges):
+    """Give the largest of the cover numbers from the vertices."""
+    if not graph_fits(vertex_count, edges):
+        return [OUTSIDE_LIMITS]
+    pairs = edge_pairs(edges)
+    if not is_connected(vertex_count, pairs):
+        return [NOT_CONNECTED]
+    return [max([cover_number_from(vertex, pairs) for vertex in range(vertex_count)])]
+
+
 def graph_fits(vertex_count, edges):
     """Tell whether the number of vertices and the flat list of edges are within their limits."""
     if vertex_count < 1 or vertex_count > MOST_VERTICES:

@@ -52,6 +52,40 @@ WRONG_GRAPHS = [
     ("everything the largest", LARGEST, [LARGEST] * 22),
 ]
 
+# Within the limits, but not connected: vertex_count, edges.
+NOT_CONNECTED = [
+    (2, []),
+    (3, []),
+    (3, [0, 1]),
+    (3, [0, 2]),
+    (3, [1, 2]),
+    (4, [0, 1, 2, 3]),
+    (4, [0, 2, 1, 3]),
+    (4, PATH_3),
+    (5, []),
+    (5, [0, 4, 1, 3]),
+    (5, [0, 1, 2, 3, 3, 4]),
+    (5, [0, 1, 0, 2, 1, 2, 3, 4]),
+    # All edges but those of the last vertex, and all but those of the first.
+    (5, [0, 1, 0, 2, 0, 3, 1, 2, 1, 3, 2, 3]),
+    (5, COMPLETE_5[8:]),
+]
+
+# Outside the limits, and if they were taken as graphs, they'd not be connected.
+WRONG_AND_NOT_CONNECTED = [
+    (0, []),
+    (3, [0]),
+    (3, [1, 1]),
+    (4, [2, 3, 0, 1]),
+    (4, [0, 1, 0, 1]),
+    (4, [0, 1, 1]),
+    (4, [1, 0, 2, 3]),
+    (4, [0, 1, 4, 5]),
+    (6, []),
+    (6, COMPLETE_5),
+    (LARGEST, PATH_3),
+]
+
 # Lists of pebbles outside the limits, on graphs within them: vertex_count, edges, pebbles.
 WRONG_PEBBLES = [
     (1, [], []),
@@ -109,6 +143,14 @@ def all_graphs(vertex_count):
     for size in range(len(pairs) + 1):
         for chosen in itertools.combinations(pairs, size):
             yield [end for pair in chosen for end in pair]
+
+
+def connected_graphs():
+    """Every connected graph within the limits: vertex_count, edges."""
+    for vertex_count in range(1, 6):
+        for edges in all_graphs(vertex_count):
+            if len(parts(vertex_count, edges)) == 1:
+                yield vertex_count, edges
 
 
 def all_configurations(vertex_count, count):

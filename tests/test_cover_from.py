@@ -5,14 +5,6 @@ from tests import graphs
 from tests.graphs import LARGEST
 
 
-def connected_graphs():
-    """Every connected graph within the limits: vertex_count, edges."""
-    for vertex_count in range(1, 6):
-        for edges in graphs.all_graphs(vertex_count):
-            if len(graphs.parts(vertex_count, edges)) == 1:
-                yield vertex_count, edges
-
-
 class Answers(unittest.TestCase):
     def check(self, vertex_count, edges, answers):
         """The answers stand in the order of the vertices."""
@@ -78,7 +70,7 @@ class SingleStack(unittest.TestCase):
 
     def test_it_covers_the_graph_from_the_cover_number_on(self):
         tried = 0
-        for vertex_count, edges in connected_graphs():
+        for vertex_count, edges in graphs.connected_graphs():
             for vertex in range(vertex_count):
                 fewest = cover_from(vertex_count, vertex, edges)[0]
                 for held in range(13):
@@ -104,21 +96,12 @@ class Refusals(unittest.TestCase):
                 self.refused(vertex_count, vertex, edges, -22)
 
     def test_graphs_that_are_not_connected(self):
-        self.refused(2, 0, [], -33)
-        self.refused(2, 1, [], -33)
-        self.refused(3, 0, [0, 1], -33)
-        self.refused(3, 2, [0, 1], -33)
-        self.refused(3, 0, [1, 2], -33)
-        self.refused(4, 0, [0, 1, 2, 3], -33)
-        self.refused(5, 4, [0, 1, 0, 2, 1, 2, 3, 4], -33)
-        # All edges but those of one vertex.
-        self.refused(5, 0, [0, 1, 0, 2, 0, 3, 1, 2, 1, 3, 2, 3], -33)
-        self.refused(5, 0, graphs.COMPLETE_5[8:], -33)
-        for vertex in range(5):
-            self.refused(5, vertex, [], -33)
+        for vertex_count, edges in graphs.NOT_CONNECTED:
+            for vertex in range(vertex_count):
+                self.refused(vertex_count, vertex, edges, -33)
 
     def test_a_vertex_that_does_not_exist(self):
-        for vertex_count, edges in connected_graphs():
+        for vertex_count, edges in graphs.connected_graphs():
             self.refused(vertex_count, vertex_count, edges, -2)
             self.refused(vertex_count, LARGEST, edges, -2)
         self.refused(1, 1, [], -2)
@@ -128,12 +111,9 @@ class Refusals(unittest.TestCase):
             self.refused(5, vertex, graphs.COMPLETE_5, -2)
 
     def test_not_connected_and_no_such_vertex(self):
-        self.refused(2, 2, [], -33)
-        self.refused(3, 3, [0, 1], -33)
-        self.refused(3, LARGEST, [1, 2], -33)
-        for vertex in self.NO_VERTICES:
-            self.refused(5, vertex, [], -33)
-            self.refused(5, vertex, [0, 1, 2, 3, 3, 4], -33)
+        for vertex_count, edges in graphs.NOT_CONNECTED:
+            for vertex in (vertex_count,) + self.NO_VERTICES:
+                self.refused(vertex_count, vertex, edges, -33)
 
     def test_a_wrong_graph_and_no_such_vertex(self):
         for name, vertex_count, edges in graphs.WRONG_GRAPHS:
@@ -141,11 +121,9 @@ class Refusals(unittest.TestCase):
                 self.refused(vertex_count, min(vertex, LARGEST), edges, -22)
 
     def test_a_wrong_graph_that_is_not_connected(self):
-        self.refused(4, 0, [2, 3, 0, 1], -22)
-        self.refused(4, 0, [0, 1, 0, 1], -22)
-        self.refused(4, 4, [0, 1, 1], -22)
-        self.refused(4, 4, [1, 1], -22)
-        self.refused(6, 6, [], -22)
+        for vertex_count, edges in graphs.WRONG_AND_NOT_CONNECTED:
+            for vertex in (0, vertex_count, LARGEST):
+                self.refused(vertex_count, vertex, edges, -22)
 
 
 if __name__ == "__main__":

@@ -74,6 +74,17 @@ FUNCTIONS = {
             (3, 3, graphs.PATH_3),
         ],
     ),
+    stones.cover_number: (
+        ["vertex_count", "edges"],
+        [
+            (1, []),
+            (3, graphs.PATH_3),
+            (5, graphs.COMPLETE_5),
+            (0, graphs.PATH_3),
+            (3, [1, 0, 0, 1]),
+            (5, [0, 4, 1, 3]),
+        ],
+    ),
 }
 
 ERRORS = [[-2], [-22], [-33]]
@@ -118,6 +129,20 @@ class Calls(unittest.TestCase):
         after = [function(*call) for function, call in reversed(CALLS)]
         self.assertEqual(before, after[::-1])
 
+    def test_a_list_that_was_changed_in_between_is_read_anew(self):
+        for function, call in CALLS:
+            with self.subTest(function.__name__, call=call):
+                answer = function(*call)
+                again = [list(one) if isinstance(one, list) else one for one in call]
+                for one in again:
+                    if isinstance(one, list):
+                        one.append(0)
+                function(*again)
+                for one in again:
+                    if isinstance(one, list):
+                        one.pop()
+                self.assertEqual(function(*again), answer)
+
     def test_nothing_is_printed(self):
         printed = io.StringIO()
         with contextlib.redirect_stdout(printed), contextlib.redirect_stderr(printed):
@@ -151,6 +176,9 @@ class ShortEdges(unittest.TestCase):
 
     def test_cover_from(self):
         self.check(lambda n, edges: stones.cover_from(n, 0, edges) != [-22])
+
+    def test_cover_number(self):
+        self.check(lambda n, edges: stones.cover_number(n, edges) != [-22])
 
 
 class Package(unittest.TestCase):
